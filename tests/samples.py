@@ -1,0 +1,98 @@
+"""Books, values of many kinds and plain references that the tests share."""
+
+import copy
+import itertools
+import random
+
+from takenout.books import Book
+
+ITEMS = (("a", 1), ("b", 2), ("c", 3), ("d", 4))
+SAYINGS = (("c", ("a", "b")), ("d", ("c",)))
+
+# Values that are no name, no pair, no list of names and no order.
+ODD = (
+    0, 1, -1, 10 ** 39, True, False, None, "", "A", "0a", "a b", "abcdefghijklm", (), [], {},
+    ("a",), ["a"], {"a": 1}, ("a", 1, 2), [("a", 1)], ((), []), {"a": [None]},
+    Book("behind", [], []),
+)
+
+
+def book_b(side="behind"):
+    """The book B of the document, or its mirrored book."""
+    return Book(side, list(ITEMS), list(SAYINGS))
+
+
+def book_with(names, sayings, side="behind", prices=None):
+    """A book with one-letter names, all prices 1 where none are told."""
+    prices = prices or [1] * len(names)
+    return Book(side, list(zip(names, prices)), list(sayings))
+
+
+def kept(side, order, saying):
+    """Whether an order keeps a saying, said as S1.1 says it."""
+    name, some = saying
+    place = order.index(name)
+    if side == "behind":
+        return any(other in order[:place] for other in some)
+    return any(other in order[place + 1:] for other in some)
+
+
+def orders_of(book):
+    """All orders of a book, by trying every order of its names."""
+    return [
+        order for order in itertools.permutations(book.names())
+        if all(kept(book.side(), order, saying) for saying in book.sayings())
+    ]
+
+
+def all_sayings(names):
+    """All sayings about some names, each some in the sequence of the names."""
+    return [
+        (name, some)
+        for name in names
+        for size in range(1, len(names))
+        for some in itertools.combinations([other for other in names if other != name], size)
+    ]
+
+
+def drawn_books(count, seed, names="abcd", most=6):
+    """Books with drawn sayings, on both sides; not each has an order."""
+    draw = random.Random(seed)
+    for _ in range(count):
+        sayings = [draw_saying(draw, names) for _ in range(draw.randrange(most + 1))]
+        prices = [draw.randrange(4) for _ in names]
+        yield book_with(names, sayings, draw.choice(["behind", "ahead"]), prices)
+
+
+def draw_saying(draw, names):
+    """A drawn saying about some names."""
+    name = draw.choice(names)
+    rest = [other for other in names if other != name]
+    return name, tuple(draw.sample(rest, draw.randrange(1, len(rest) + 1)))
+
+
+class Untouched:
+    """A context in which values have to stay as they are."""
+
+    def __init__(self, case, *values):
+        self.case = case
+        self.values = values
+        self.before = copy.deepcopy(values)
+
+    def __enter__(self):
+        return self
+
+    def __exit__(self, *told):
+        self.case.assertEqual(self.before, self.values)
+        return False
+
+
+def raised(error, call, *args):
+    """The error of this very class that a call raises, or a failure."""
+    try:
+        answer = call(*args)
+    except error as told:
+        if told.__class__ is not error:
+            raise AssertionError(f"raised {told!r}, not {error.__name__}")
+        return told
+    raise AssertionError(f"returned {answer!r} and did not raise {error.__name__}")

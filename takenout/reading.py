@@ -1,0 +1,60 @@
+"""Reading a text lexeme by lexeme, up to its first wrong place."""
+
+from takenout.errors import BadText
+from takenout.lexemes import NUMBER, WORD, scanned
+
+
+class Reader:
+    """The lexemes of a text, taken one after another by a form that asks for them."""
+
+    def __init__(self, text):
+        found, stop = scanned(text)
+        self._found = found
+        self._taken = 0
+        self._whole = stop is None
+        self._end = len(text) if stop is None else stop
+
+    def sees(self, lexeme):
+        """Return whether this lexeme comes next."""
+        return self._taken < len(self._found) and self._found[self._taken][1] == lexeme
+
+    def take(self, lexeme):
+        """Take this lexeme, which has to come next."""
+        if not self.sees(lexeme):
+            raise BadText(self._wrong_place())
+        self._taken += 1
+
+    def take_name(self):
+        """Take a word and return it."""
+        return self._take_sort(WORD)
+
+    def take_names(self, end):
+        """Take all words up to a sign, and the sign; return the tuple of the words."""
+        names = []
+        while not self.sees(end):
+            names.append(self.take_name())
+        self.take(end)
+        return tuple(names)
+
+    def take_number(self):
+        """Take a number and return it."""
+        return int(self._take_sort(NUMBER))
+
+    def take_end(self):
+        """Ask that nothing comes any more."""
+        if self._taken < len(self._found) or not self._whole:
+            raise BadText(self._wrong_place())
+
+    def _take_sort(self, sort):
+        """Take a lexeme of a sort and return it."""
+        if self._taken == len(self._found) or self._found[self._taken][0] != sort:
+            raise BadText(self._wrong_place())
+        lexeme = self._found[self._taken][1]
+        self._taken += 1
+        return lexeme
+
+    def _wrong_place(self):
+        """Return the place of what comes next: a lexeme, a wrong sign or the end."""
+        if self._taken < len(self._found):
+            return self._found[self._taken][2]
+        return self._end

@@ -1,0 +1,96 @@
+"""Each name of the interface stands in its file, with its arguments as written."""
+
+import importlib
+import inspect
+import unittest
+
+FUNCTIONS = {
+    "words": {"is_word": ["value"], "is_integer": ["value"], "is_number": ["value"]},
+    "books": {"mirrored_book": ["book"], "with_sayings": ["book", "sayings"]},
+    "orders": {
+        "check_order": ["book", "value"],
+        "broken": ["book", "order"],
+        "keeps": ["book", "order", "saying"],
+        "is_order": ["book", "value"],
+        "mirrored_order": ["order"],
+    },
+    "lexemes": {"lexemes": ["text"]},
+    "booktexts": {
+        "book_text": ["book"], "order_text": ["order"], "read_book": ["text"], "read_order": ["text"],
+    },
+    "laying": {"laid": ["book", "names"], "any_order": ["book"], "judge_stuck": ["book", "value"]},
+    "following": {
+        "follows": ["book", "saying"],
+        "follow_paper": ["book", "saying"],
+        "judge_follow": ["book", "saying", "value"],
+        "against": ["book", "saying"],
+        "lean_book": ["book"],
+    },
+    "deeds": {
+        "done": ["book", "order", "deed"],
+        "led": ["book", "order", "script"],
+        "script_price": ["book", "script"],
+        "taken_back": ["book", "order", "script"],
+        "all_deeds": ["book", "order"],
+    },
+}
+CLASSES = {
+    "books": {
+        "Book": {
+            "__init__": ["self", "side", "items", "sayings"],
+            "side": ["self"],
+            "all_items": ["self"],
+            "sayings": ["self"],
+            "names": ["self"],
+            "has_name": ["self", "value"],
+            "price": ["self", "name"],
+            "total": ["self"],
+            "__eq__": ["self", "other"],
+        },
+    },
+    "errors": {
+        "OutError": {},
+        "NoOrder": {"__init__": ["self", "stuck"]},
+        "BadBook": {"__init__": ["self", "path"]},
+        "BadOrder": {"__init__": ["self", "path"]},
+        "BadDeed": {"__init__": ["self", "word"]},
+        "BadScript": {"__init__": ["self", "number"]},
+        "NotEqual": {},
+        "Crossed": {"__init__": ["self", "one", "other"]},
+        "TooGreat": {},
+        "NothingDone": {},
+        "BadText": {"__init__": ["self", "place"]},
+        "BadAct": {"__init__": ["self", "word"]},
+        "NameMissing": {},
+        "UnknownName": {"__init__": ["self", "name"]},
+    },
+}
+
+
+def arguments(function):
+    """The names of the parameters of a function."""
+    return list(inspect.signature(function).parameters)
+
+
+class TestInterface(unittest.TestCase):
+    def test_functions(self):
+        for file, functions in FUNCTIONS.items():
+            module = importlib.import_module("takenout." + file)
+            for name, expected in functions.items():
+                function = getattr(module, name)
+                self.assertTrue(inspect.isfunction(function), name)
+                self.assertEqual(function.__module__, module.__name__, name)
+                self.assertEqual(arguments(function), expected, name)
+
+    def test_classes(self):
+        for file, classes in CLASSES.items():
+            module = importlib.import_module("takenout." + file)
+            for name, methods in classes.items():
+                told = getattr(module, name)
+                self.assertEqual(told.__module__, module.__name__, name)
+                for method, expected in methods.items():
+                    self.assertEqual(arguments(vars(told)[method]), expected, f"{name}.{method}")
+
+
+if __name__ == "__main__":
+    unittest.main()

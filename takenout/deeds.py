@@ -26,7 +26,7 @@ def script_price(book, script):
 def taken_back(book, order, script):
     """Return the script that leads back by the same orders."""
     orders = walked(book, order, script)
-    back = [(deed[0], _ahead_of(one, deed[0])) for one, deed in zip(orders, script)]
+    back = [(deed[0], name_ahead(one, deed[0])) for one, deed in zip(orders, script)]
     return back[::-1]
 
 
@@ -75,7 +75,7 @@ def walked(book, order, script):
     return orders
 
 
-def _ahead_of(order, name):
+def name_ahead(order, name):
     """Return the name right ahead of another one in an order, or None."""
     at = order.index(name)
     return None if at == 0 else order[at - 1]

@@ -29,7 +29,7 @@ def wrong_member(book, values):
 def broken(book, order):
     """Return the number of the first saying that an order of the names does not keep, or None."""
     behind = book.side() == BEHIND
-    places = _places(order)
+    places = places_of(order)
     for number, saying in enumerate(book.sayings()):
         if not _stands_right(behind, places, saying):
             return number
@@ -38,7 +38,12 @@ def broken(book, order):
 
 def keeps(book, order, saying):
     """Return whether an order of the names keeps a saying, by the side of the book."""
-    return _stands_right(book.side() == BEHIND, _places(order), saying)
+    return keeps_by(book.side(), order, saying)
+
+
+def keeps_by(side, order, saying):
+    """Return whether an order keeps a saying about its names, by a side."""
+    return _stands_right(side == BEHIND, places_of(order), saying)
 
 
 def is_order(book, value):
@@ -53,7 +58,7 @@ def mirrored_order(order):
     return tuple(reversed(order))
 
 
-def _places(order):
+def places_of(order):
     """Return the place of each name of an order, by the names."""
     return {name: place for place, name in enumerate(order)}
 

@@ -45,6 +45,57 @@ def orders_of(book):
     ]
 
 
+def rows_of(orders):
+    """All rows of some orders, by trying all names of the first one that may be taken."""
+    return [
+        row
+        for size in range(len(orders[0]) + 1)
+        for row in itertools.combinations(orders[0], size)
+        if all([name for name in order if name in row] == list(row) for order in orders)
+    ]
+
+
+def dearest_of(book, rows):
+    """The greatest price of some rows."""
+    prices = dict(book.all_items())
+    return max(sum(prices[name] for name in row) for row in rows)
+
+
+def drawn_orders(count, seed, names="abcde"):
+    """Books, some without an order, with drawn prices, and some orders of the names of each."""
+    draw = random.Random(seed)
+    for _ in range(count):
+        many = draw.randrange(len(names) + 1)
+        sayings = [draw_saying(draw, names[:many]) for _ in range(3)] if many > 1 else []
+        prices = [draw.choice([0, 0, 1, 2, 3, 5, 10 ** 30]) for _ in range(many)]
+        book = book_with(names[:many], sayings, draw.choice(["behind", "ahead"]), prices)
+        # Few changes of one order, so that many names stand in one sequence in all.
+        first = draw.sample(names[:many], many)
+        orders = [tuple(first)]
+        for _ in range(draw.choice([0, 1, 1, 1, 2, 4])):
+            order = list(first)
+            for _ in range(draw.randrange(4) if many else 0):
+                order.insert(draw.randrange(many), order.pop(draw.randrange(many)))
+            orders.append(tuple(order))
+        draw.shuffle(orders)
+        yield book, orders
+
+
+def great_orders(many, seed, items=40):
+    """A book of forty items with great prices and sayings that no order keeps, and orders."""
+    draw = random.Random(seed)
+    names = [f"x{k}" for k in range(items)]
+    sayings = [(names[k], (names[k - 1],)) for k in range(items)]
+    book = Book("behind", [(name, draw.randrange(10 ** 30 + 1)) for name in names], sayings)
+    orders = []
+    for _ in range(many):
+        order = list(names)
+        for _ in range(3):
+            order.insert(draw.randrange(items), order.pop(draw.randrange(items)))
+        orders.append(tuple(order))
+    return book, orders
+
+
 def all_sayings(names):
     """All sayings about some names, each some in the sequence of the names."""
     return [

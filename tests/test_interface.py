@@ -33,6 +33,22 @@ FUNCTIONS = {
         "taken_back": ["book", "order", "script"],
         "all_deeds": ["book", "order"],
     },
+    "scripttexts": {"script_text": ["script"], "read_script": ["text"]},
+    "plainwalks": {"walk_prices": ["book", "order"]},
+    "rows": {
+        "is_row": ["book", "orders", "value"],
+        "row_price": ["book", "row"],
+        "dearest_row": ["book", "orders"],
+        "dearest_price": ["book", "orders"],
+        "dearest_with": ["book", "orders", "row"],
+    },
+    "times": {"times": ["book", "orders"], "judge_times": ["book", "orders", "value"]},
+    "thresholds": {
+        "through": ["book", "orders", "name"],
+        "without": ["book", "orders", "name"],
+        "threshold": ["book", "orders", "name"],
+        "standing": ["book", "orders"],
+    },
 }
 CLASSES = {
     "books": {

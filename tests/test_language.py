@@ -21,8 +21,9 @@ METHODS = set((
 DUNDERS = {"__init__", "__eq__", "__repr__", "__str__", "__len__"}
 BARRED_NODES = (
     ast.AsyncFunctionDef, ast.Global, ast.Await, ast.Div, ast.SetComp, ast.With, ast.Yield, ast.YieldFrom,
-    ast.GeneratorExp, ast.Try, ast.NamedExpr, ast.Match, ast.Nonlocal, ast.JoinedStr,
+    ast.GeneratorExp, ast.NamedExpr, ast.Match, ast.Nonlocal, ast.JoinedStr,
 )
+LIBRARY = {"heapq": {"heappush", "heappop"}}
 BARRED_WORDS = {
     "register", "mro", "elements", "open", "input", "law", "version_info", "with_traceback", "add_note",
     "type", "typing", "enum", "Enum", "dataclass", "namedtuple",
@@ -50,6 +51,18 @@ def defined(tree):
     """The names that a module binds by itself."""
     names = [node.name for node in tree.body if isinstance(node, (ast.FunctionDef, ast.ClassDef))]
     return names + [node.targets[0].id for node in tree.body if isinstance(node, ast.Assign)]
+
+
+def imports(tree):
+    """The imports from files of the package that stand at the top of a module."""
+    return [
+        node for node in tree.body if isinstance(node, ast.ImportFrom) and node.module not in LIBRARY
+    ]
+
+
+def own_errors():
+    """The names of all classes of the package that its errors file defines."""
+    return {name for file, _, tree in trees() if file == "errors.py" for name in defined(tree)}
 
 
 def bound(tree):
@@ -92,15 +105,28 @@ class TestImports(unittest.TestCase):
         for name, _, tree in trees():
             for node in ast.walk(tree):
                 self.assertNotIsInstance(node, ast.Import, name)
-                if isinstance(node, ast.ImportFrom):
+                if isinstance(node, ast.ImportFrom) and node.module in LIBRARY:
+                    self.assertLessEqual({alias.name for alias in node.names}, LIBRARY[node.module], name)
+                    self.assertEqual({alias.asname for alias in node.names}, {None}, name)
+                elif isinstance(node, ast.ImportFrom):
                     self.assertEqual((node.level, node.module.split(".")[0]), (0, "takenout"), name)
                     for alias in node.names:
                         self.assertIn(alias.name, table[node.module.split(".")[1] + ".py"], name)
                         self.assertIsNone(alias.asname)
 
+    def test_library_is_only_called(self):
+        library = {name for names in LIBRARY.values() for name in names}
+        for name, _, tree in trees():
+            called = {id(node.func) for node in ast.walk(tree) if isinstance(node, ast.Call)}
+            for node in ast.walk(tree):
+                if isinstance(node, ast.Name) and node.id in library:
+                    self.assertIn(id(node), called, name)
+                if isinstance(node, ast.Call) and isinstance(node.func, ast.Name) and node.func.id in library:
+                    self.assertEqual(node.keywords, [], name)
+
     def test_no_circle(self):
         left = {
-            name: {node.module.split(".")[1] + ".py" for node in tree.body if isinstance(node, ast.ImportFrom)}
+            name: {node.module.split(".")[1] + ".py" for node in imports(tree)}
             for name, _, tree in trees()
         }
         while left:
@@ -151,6 +177,16 @@ class TestStatements(unittest.TestCase):
                 if isinstance(node, ast.Constant):
                     self.assertNotIsInstance(node.value, (float, complex), name)
                     self.assertFalse(isinstance(node.value, str) and "%" in node.value, name)
+
+    def test_own_errors_alone_are_caught(self):
+        errors = own_errors()
+        for name, _, tree in trees():
+            for node in ast.walk(tree):
+                if isinstance(node, ast.Try):
+                    self.assertEqual(node.finalbody, [], name)
+                    for handler in node.handlers:
+                        self.assertIsInstance(handler.type, ast.Name, name)
+                        self.assertIn(handler.type.id, errors, name)
 
     def test_builtins_that_are_called(self):
         for name, _, tree in trees():

@@ -36,11 +36,15 @@ def best_price(prices, ahead, names):
 
 
 def best_row(prices, ahead, names):
-    """Return a dearest row of some names, passed as for best_ends."""
+    """Return a dearest row of some names, passed as for best_ends.
+
+    It has each name with which all others stand in one sequence, also one of the price 0.
+    """
     best = best_ends(prices, ahead, names)
     left = max(best.values(), default=0)
     row = []
     for name in reversed(names):
+        # What is left is the greatest price of a row that ends ahead of the last name taken.
         if best[name] == left and (not row or name in ahead[row[-1]]):
             row.append(name)
             left -= prices[name]

@@ -96,6 +96,34 @@ def great_orders(many, seed, items=40):
     return book, orders
 
 
+def great_pair(side, seed, items=40, moves=None):
+    """A book of forty items with great prices and sixty sayings, and two orders of it."""
+    draw = random.Random(seed)
+    names = [f"x{k}" for k in range(items)]
+    one = draw.sample(names, items)
+    other = draw.sample(names, items) if moves is None else list(one)
+    for _ in range(moves or 0):
+        other.insert(draw.randrange(items), other.pop(draw.randrange(items)))
+    sayings = []
+    while len(sayings) < 60:
+        name = draw.choice(names)
+        saying = (name, tuple(draw.sample([it for it in names if it != name], draw.randrange(1, 13))))
+        if kept(side, one, saying) and kept(side, other, saying):
+            sayings.append(saying)
+    items = [(name, draw.choice([0, 1, draw.randrange(10 ** 30 + 1)])) for name in names]
+    return Book(side, items, sayings), tuple(one), tuple(other)
+
+
+def read_together(side, orders, order):
+    """Whether an order is read together of orders, said as S8.1 says it."""
+    if side == "ahead":
+        orders, order = [one[::-1] for one in orders], order[::-1]
+    return all(
+        any(next(it for it in one if it not in order[:k]) == name for one in orders)
+        for k, name in enumerate(order)
+    )
+
+
 def all_sayings(names):
     """All sayings about some names, each some in the sequence of the names."""
     return [

@@ -49,6 +49,27 @@ FUNCTIONS = {
         "threshold": ["book", "orders", "name"],
         "standing": ["book", "orders"],
     },
+    "rowscripts": {"row_script": ["book", "one", "other", "row"]},
+    "leastprices": {
+        "least_price": ["book", "one", "other"],
+        "cheapest_script": ["book", "one", "other"],
+        "price_paper": ["book", "one", "other"],
+        "judge_price": ["book", "one", "other", "value"],
+    },
+    "nails": {
+        "nailed_price": ["book", "one", "other", "names"],
+        "nailed_script": ["book", "one", "other", "names"],
+        "kept_cost": ["book", "one", "other", "name"],
+    },
+    "tables": {
+        "is_table": ["value"],
+        "all_tables": [],
+        "renamed": ["table", "word"],
+        "keeps_condition": ["order", "condition"],
+        "kept_sayings": ["table", "side"],
+        "table_of": ["sayings", "side"],
+        "is_side_table": ["table", "side"],
+    },
 }
 CLASSES = {
     "books": {

@@ -12,19 +12,23 @@ from takenout.plainwalks import walk_prices
 ORDER = ("a", "c", "d", "b")
 
 
-def plain_prices(book, order):
-    """The least price of each order to which a script leads, by doing deeds until none makes one less."""
-    prices = {order: 0}
-    steps = {
-        one: [(plain_moved(one, deed), book.price(deed[0])) for deed in plain_deeds(book, one)]
+def plain_steps(book):
+    """All deeds that can be done at each order of a book: the name, the order behind it, the price."""
+    return {
+        one: [(deed[0], plain_moved(one, deed), book.price(deed[0])) for deed in plain_deeds(book, one)]
         for one in orders_of(book)
     }
+
+
+def plain_prices(steps, order, nailed=()):
+    """The least price of each order to which a script leads, by doing deeds until none makes one less."""
+    prices = {order: 0}
     changed = True
     while changed:
         changed = False
         for one, price in list(prices.items()):
-            for behind, more in steps[one]:
-                if behind not in prices or price + more < prices[behind]:
+            for name, behind, more in steps[one]:
+                if name not in nailed and (behind not in prices or price + more < prices[behind]):
                     prices[behind] = price + more
                     changed = True
     return prices
@@ -78,9 +82,10 @@ class TestSmallBooks(unittest.TestCase):
 
     def test_against_a_plain_search(self):
         for book in drawn_books(60, seed=31):
+            steps = plain_steps(book)
             for order in orders_of(book)[::5]:
                 found = walk_prices(book, order)
-                self.assertEqual(dict(found), plain_prices(book, order))
+                self.assertEqual(dict(found), plain_prices(steps, order))
                 self.assertEqual(dict(found)[order], 0)
 
     def test_great_small_and_no_prices(self):
@@ -90,8 +95,9 @@ class TestSmallBooks(unittest.TestCase):
             ([0, 0, 0, 0], [10 ** 30, 1, 0, 10 ** 30 + 1], [5, 5, 5, 5], [0, 3, 10 ** 30, 2]),
         ):
             book = book_with("abcd", sayings, side, prices)
+            steps = plain_steps(book)
             for order in orders_of(book):
-                self.assertEqual(dict(walk_prices(book, order)), plain_prices(book, order))
+                self.assertEqual(dict(walk_prices(book, order)), plain_prices(steps, order))
 
     def test_sayings_never_cost(self):
         for book in drawn_books(60, seed=32, names="abcde", most=5):

@@ -1,6 +1,6 @@
 """What stands ahead in all of some orders, and dearest rows found name by name."""
 
-from takenout.orders import places_of
+from takenout.orders import mirrored_order, places_of
 
 
 def names_ahead(orders):
@@ -28,6 +28,17 @@ def best_ends(prices, ahead, names):
     for name in names:
         best[name] = prices[name] + max([best[other] for other in ahead[name] if other in best], default=0)
     return best
+
+
+def row_ends(book, orders):
+    """Return the greatest price of a row of the orders that ends with each name, by the names."""
+    ahead = names_ahead(orders)
+    return best_ends(dict(book.all_items()), ahead, list(ahead))
+
+
+def row_begins(book, orders):
+    """Return the greatest price of a row of the orders that begins with each name, by the names."""
+    return row_ends(book, [mirrored_order(order) for order in orders])
 
 
 def best_price(prices, ahead, names):

@@ -70,6 +70,36 @@ FUNCTIONS = {
         "table_of": ["sayings", "side"],
         "is_side_table": ["table", "side"],
     },
+    "stocks": {
+        "sides_of": ["stock"],
+        "is_never_dearer": ["stock"],
+        "saying_book": ["stock", "items", "conditions"],
+    },
+    "breaks": {
+        "find_break": ["stock"],
+        "judge_break": ["stock", "value"],
+        "let_orders": ["items", "conditions"],
+        "walked_price": ["items", "conditions", "one", "other"],
+    },
+    "choosing": {
+        "is_next": ["book", "one", "other", "deed"],
+        "next_deeds": ["book", "one", "other"],
+        "is_between": ["book", "one", "other", "value"],
+        "all_between": ["book", "one", "other"],
+    },
+    "tours": {
+        "still_row": ["book", "orders"],
+        "tour_price": ["book", "orders", "row"],
+        "tour": ["book", "orders", "row"],
+    },
+    "together": {
+        "is_together": ["side", "orders", "value"],
+        "together_paper": ["side", "orders", "order"],
+        "judge_together": ["side", "orders", "order", "value"],
+        "count_together": ["side", "orders"],
+        "together_at": ["side", "orders", "number"],
+        "together_number": ["side", "orders", "order"],
+    },
 }
 CLASSES = {
     "books": {

@@ -23,7 +23,7 @@ BARRED_NODES = (
     ast.AsyncFunctionDef, ast.Global, ast.Await, ast.Div, ast.SetComp, ast.With, ast.Yield, ast.YieldFrom,
     ast.GeneratorExp, ast.NamedExpr, ast.Match, ast.Nonlocal, ast.JoinedStr,
 )
-LIBRARY = {"heapq": {"heappush", "heappop"}}
+LIBRARY = {"heapq": {"heappush", "heappop"}, "itertools": {"permutations"}}
 BARRED_WORDS = {
     "register", "mro", "elements", "open", "input", "law", "version_info", "with_traceback", "add_note",
     "type", "typing", "enum", "Enum", "dataclass", "namedtuple",

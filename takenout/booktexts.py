@@ -1,6 +1,7 @@
 """Texts of books and of orders."""
 
 from takenout.books import AHEAD, BEHIND, Book
+from takenout.parts import read_priced, read_saying
 from takenout.reading import Reader
 from takenout.writing import written
 
@@ -25,15 +26,18 @@ def read_book(text):
     """Return the book of a text."""
     reader = Reader(text)
     reader.take("book")
-    side = AHEAD if reader.sees(AHEAD) else BEHIND
-    reader.take(side)
+    side = reader.take_one((BEHIND, AHEAD))
     reader.take("{")
     items = []
     while reader.sees("item"):
-        items.append(_read_item(reader))
+        reader.take("item")
+        items.append(read_priced(reader))
+        reader.take(";")
     sayings = []
     while reader.sees("saying"):
-        sayings.append(_read_saying(reader))
+        reader.take("saying")
+        sayings.append(read_saying(reader))
+        reader.take(";")
     reader.take("}")
     reader.take_end()
     return Book(side, items, sayings)
@@ -44,25 +48,7 @@ def read_order(text):
     reader = Reader(text)
     reader.take("order")
     reader.take("{")
-    order = reader.take_names("}")
+    order = reader.take_names()
+    reader.take("}")
     reader.take_end()
     return order
-
-
-def _read_item(reader):
-    """Take an item and return it."""
-    reader.take("item")
-    name = reader.take_name()
-    reader.take("costs")
-    price = reader.take_number()
-    reader.take(";")
-    return (name, price)
-
-
-def _read_saying(reader):
-    """Take a saying and return it."""
-    reader.take("saying")
-    name = reader.take_name()
-    reader.take("needs")
-    first = reader.take_name()
-    return (name, (first,) + reader.take_names(";"))

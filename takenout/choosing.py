@@ -24,9 +24,9 @@ def next_deeds(book, one, other):
     places = places_of(other)
     deeds = []
     for name, place in all_deeds(book, one):
-        front, back = _parted(one, name, place)
-        ahead = max([ends[it] for it in front if places[it] < places[name]], default=0)
-        behind = max([begins[it] for it in back if places[it] > places[name]], default=0)
+        at = 0 if place is None else one.index(place) + 1
+        ahead = max([ends[it] for it in one[:at] if places[it] < places[name]], default=0)
+        behind = max([begins[it] for it in one[at:] if places[it] > places[name]], default=0)
         # The item is to stand for good, beside a row as dear as a dearest one; or it costs nothing.
         if ahead + behind == best or book.price(name) == 0:
             deeds.append((name, place))
@@ -45,13 +45,6 @@ def all_between(book, one, other):
     least = least_price(book, one, other)
     orders = [order for order in permutations(book.names()) if broken(book, order) is None]
     return [order for order in orders if _price_by(book, one, order, other) == least]
-
-
-def _parted(order, name, place):
-    """Return what stands ahead of a name that is put behind a place, and what stands behind it."""
-    rest = [other for other in order if other != name]
-    at = 0 if place is None else rest.index(place) + 1
-    return rest[:at], rest[at:]
 
 
 def _price_by(book, one, order, other):

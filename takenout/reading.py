@@ -20,20 +20,25 @@ class Reader:
 
     def take(self, lexeme):
         """Take this lexeme, which has to come next."""
-        if not self.sees(lexeme):
-            raise BadText(self._wrong_place())
-        self._taken += 1
+        self.take_one((lexeme,))
+
+    def take_one(self, lexemes):
+        """Take one of these lexemes, which has to come next, and return it."""
+        for lexeme in lexemes:
+            if self.sees(lexeme):
+                self._taken += 1
+                return lexeme
+        raise BadText(self._wrong_place())
 
     def take_name(self):
         """Take a word and return it."""
         return self._take_sort(WORD)
 
-    def take_names(self, end):
-        """Take all words up to a sign, and the sign; return the tuple of the words."""
+    def take_names(self):
+        """Take all words that come next and return the tuple of them."""
         names = []
-        while not self.sees(end):
+        while self._sees_sort(WORD):
             names.append(self.take_name())
-        self.take(end)
         return tuple(names)
 
     def take_number(self):
@@ -47,11 +52,15 @@ class Reader:
 
     def _take_sort(self, sort):
         """Take a lexeme of a sort and return it."""
-        if self._taken == len(self._found) or self._found[self._taken][0] != sort:
+        if not self._sees_sort(sort):
             raise BadText(self._wrong_place())
         lexeme = self._found[self._taken][1]
         self._taken += 1
         return lexeme
+
+    def _sees_sort(self, sort):
+        """Return whether a lexeme of a sort comes next."""
+        return self._taken < len(self._found) and self._found[self._taken][0] == sort
 
     def _wrong_place(self):
         """Return the place of what comes next: a lexeme, a wrong sign or the end."""

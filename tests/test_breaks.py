@@ -232,6 +232,12 @@ class TestJudgeBreak(Breaks):
         self.assertIs(self.judge(five, ((TURN, ABC),), (*ABC, "d", "e"), (*CBA, "d", "e")), False)
         self.assertIs(self.judge(ITEMS, ((TURN, ABC),) * 3, ABC, CBA), False)
 
+    def test_a_condition_at_four_names(self):
+        four = (*ITEMS, ("d", 1))
+        for three in (("a", "b", "c", "d"), ("a", "b"), ("d", "a", "b", "c")):
+            self.assertIs(self.judge(four, ((TURN, three),), (*ABC, "d"), (*CBA, "d")), False)
+            self.assertIs(self.judge(four, ((TURN, ABC), (TURN, three)), (*ABC, "d"), (*CBA, "d")), False)
+
     def test_a_table_that_is_not_of_the_stock(self):
         for stock in ([], [X_NOT_LAST], [WORDS, NO_SIDE], [TURN[:1], TURN[1:]]):
             self.assertIs(self.judge(*TURNED, stock=stock), False)

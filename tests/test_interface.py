@@ -100,6 +100,22 @@ FUNCTIONS = {
         "together_at": ["side", "orders", "number"],
         "together_number": ["side", "orders", "order"],
     },
+    "madebooks": {
+        "least_sayings": ["side", "orders", "names", "name"],
+        "book_of": ["side", "items", "orders"],
+        "joined_book": ["one", "other"],
+    },
+    "rowcounts": {
+        "count_rows": ["book", "orders"],
+        "row_at": ["book", "orders", "number"],
+        "row_number": ["book", "orders", "row"],
+        "drawn_row": ["book", "orders", "number"],
+        "count_with": ["book", "orders", "name"],
+    },
+    "pricelines": {
+        "price_line": ["book", "one", "other", "name"],
+        "least_at": ["book", "one", "other", "name", "price"],
+    },
 }
 CLASSES = {
     "books": {
@@ -131,6 +147,28 @@ CLASSES = {
         "NameMissing": {},
         "UnknownName": {"__init__": ["self", "name"]},
     },
+    "house": {
+        "House": {
+            "__init__": ["self", "book", "order"],
+            "book": ["self"],
+            "order": ["self"],
+            "goal": ["self"],
+            "nailed": ["self"],
+            "owed": ["self"],
+            "account": ["self"],
+            "act_word": ["self", "act"],
+            "do": ["self", "act"],
+            "undo": ["self"],
+            "redo": ["self"],
+            "acts": ["self"],
+            "mark": ["self", "name"],
+            "since": ["self", "name"],
+            "marks": ["self"],
+            "next_deed": ["self"],
+            "twin": ["self"],
+        },
+    },
+    "console": {"Console": {"__init__": ["self", "house"], "answer": ["self", "line"]}},
 }
 
 

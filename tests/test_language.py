@@ -124,6 +124,14 @@ class TestImports(unittest.TestCase):
                 if isinstance(node, ast.Call) and isinstance(node.func, ast.Name) and node.func.id in library:
                     self.assertEqual(node.keywords, [], name)
 
+    def test_permutations_are_iterated_at_once(self):
+        for name, _, tree in trees():
+            nodes = list(ast.walk(tree))
+            heads = {id(node.iter) for node in nodes if isinstance(node, (ast.For, ast.comprehension))}
+            for node in nodes:
+                if isinstance(node, ast.Call) and getattr(node.func, "id", None) == "permutations":
+                    self.assertIn(id(node), heads, name)
+
     def test_no_circle(self):
         left = {
             name: {node.module.split(".")[1] + ".py" for node in imports(tree)}
@@ -134,6 +142,21 @@ class TestImports(unittest.TestCase):
             self.assertTrue(free, left)
             for name in free:
                 del left[name]
+
+
+class TestTables(unittest.TestCase):
+    def test_tables_are_only_read(self):
+        for name, _, tree in trees():
+            tables = [
+                node.targets[0].id for node in tree.body
+                if isinstance(node, ast.Assign) and isinstance(node.value, (ast.Dict, ast.List))
+            ]
+            for node in ast.walk(tree):
+                if isinstance(node, ast.Subscript) and getattr(node.value, "id", None) in tables:
+                    self.assertIsInstance(node.ctx, ast.Load, name)
+                # What a table has is given a name before it is called.
+                if isinstance(node, ast.Call):
+                    self.assertNotIsInstance(node.func, (ast.Subscript, ast.Call), name)
 
 
 class TestNames(unittest.TestCase):
